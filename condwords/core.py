@@ -3,7 +3,7 @@
 from condwords.bits import WORD, turn_right
 
 STATUS_BITS = 0xF00000DF
-LAST_PLACE = 0xFFFFF
+WORD_PLACES = 0xFFFFC
 
 
 class Core:
@@ -19,9 +19,10 @@ class Core:
         self.banks = state[23:33]
         self.status = state[33] & STATUS_BITS
         self.saved = [status & STATUS_BITS for status in state[34:39]]
-        self.memory = {}
+        # Kept by the places of whole words, since what is asked most is the instruction at R15.
+        self.words = {}
         for k in range(0, len(pokes), 2):
-            self.memory[pokes[k]] = pokes[k + 1]
+            store_byte(self, pokes[k], pokes[k + 1])
 
     def numbers(self):
         """The state's 39 numbers, in their order."""
@@ -49,21 +50,17 @@ def set_result(core, number, value):
 
 def load_byte(core, place):
     """The byte at a place."""
-    return core.memory.get(place & LAST_PLACE, 0)
+    return (load_word(core, place) >> (8 * (place & 3))) & 0xFF
 
 
 def load_half(core, place):
     """The halfword at a place, whose low bit is passed over."""
-    even = place & -2
-    return load_byte(core, even) | (load_byte(core, even + 1) << 8)
+    return (load_word(core, place) >> (8 * (place & 2))) & 0xFFFF
 
 
 def load_word(core, place):
     """The word at a place, whose low two bits are passed over."""
-    start = place & LAST_PLACE & -4
-    lower = core.memory.get(start, 0) | (core.memory.get(start + 1, 0) << 8)
-    upper = core.memory.get(start + 2, 0) | (core.memory.get(start + 3, 0) << 8)
-    return lower | (upper << 16)
+    return core.words.get(place & WORD_PLACES, 0)
 
 
 def load_turned_word(core, place):
@@ -73,18 +70,19 @@ def load_turned_word(core, place):
 
 def store_byte(core, place, value):
     """Write a value's lowest byte."""
-    core.memory[place & LAST_PLACE] = value & 255
+    store_part(core, place, value, 0xFF, 8 * (place & 3))
 
 
 def store_half(core, place, value):
     """Write a value's lower half at a place, whose low bit is passed over."""
-    even = place & -2
-    store_byte(core, even, value)
-    store_byte(core, even + 1, value >> 8)
+    store_part(core, place, value, 0xFFFF, 8 * (place & 2))
+
+
+def store_part(core, place, value, part, shift):
+    """Write a part of a value into the word at a place, so far up in it."""
+    store_word(core, place, (load_word(core, place) & ~(part << shift)) | ((value & part) << shift))
 
 
 def store_word(core, place, value):
     """Write a word at a place, whose low two bits are passed over."""
-    start = place & -4
-    store_half(core, start, value)
-    store_half(core, start + 2, value >> 16)
+    core.words[place & WORD_PLACES] = value

@@ -6,6 +6,9 @@ from condwords.steps import step
 
 UNSAID_REFUSAL = -1
 STATE_REFUSAL = -2
+STEPS_REFUSAL = -3
+
+MOST_STEPS = 1000000
 
 
 def arm_step(state, pokes, looks):
@@ -16,6 +19,24 @@ def arm_step(state, pokes, looks):
     if not step(core):
         return [UNSAID_REFUSAL]
     return answer(0, core, looks)
+
+
+def arm_run(steps, state, pokes, looks):
+    """Do up to so many instructions: how many were done, the state's 39 numbers and the looks' bytes, or a refusal."""
+    core = Core(state, pokes)
+    if is_refused(core):
+        return [STATE_REFUSAL]
+    if steps > MOST_STEPS:
+        return [STEPS_REFUSAL]
+    return answer(count_steps(core, steps), core, looks)
+
+
+def count_steps(core, most):
+    """Do instructions until there are so many or one is left unsaid, and answer how many were done."""
+    done = 0
+    while done < most and step(core):
+        done += 1
+    return done
 
 
 def is_refused(core):

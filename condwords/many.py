@@ -60,9 +60,10 @@ def lowest_place(word, start, length):
 
 def load_many(core, word, numbers, place):
     """Load the registers of these numbers, one word after another."""
+    of_user = is_of_user(word)
     for k, number in enumerate(numbers):
         value = load_word(core, place + 4 * k)
-        if is_of_user(word):
+        if of_user:
             set_user_value(core, number, value)
         else:
             set_result(core, number, value)
@@ -70,8 +71,9 @@ def load_many(core, word, numbers, place):
 
 def store_many(core, word, numbers, place):
     """Store the registers of these numbers, one word after another."""
+    of_user = is_of_user(word)
     for k, number in enumerate(numbers):
-        value = user_value(core, number) if is_of_user(word) else stored_value(core, number)
+        value = user_value(core, number) if of_user else stored_value(core, number)
         store_word(core, place + 4 * k, value)
 
 

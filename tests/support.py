@@ -49,6 +49,19 @@ def word_pokes(place, word):
     return pokes
 
 
+def program_pokes(words, place=PC):
+    """The pokes that lay words at a place, one behind another."""
+    pokes = []
+    for k, word in enumerate(words):
+        pokes += word_pokes(place + 4 * k, word)
+    return pokes
+
+
+def cleaned(state):
+    """The state with the statuses' other bits 0."""
+    return state[:STATUS] + [status & STATUS_BITS for status in state[STATUS:]]
+
+
 def sum_by_number(op, s, rn, rd, byte, turn=0, cond=14):
     return cond << 28 | 1 << 25 | op << 21 | s << 20 | rn << 16 | rd << 12 | turn << 8 | byte
 
@@ -134,9 +147,7 @@ class StepCase(unittest.TestCase):
 
     def assert_step(self, word, state, changes, words=None, words_after=None):
         """The instruction is done and changes just this; R15 goes on by four if no change tells it."""
-        expected = list(state)
-        for k in range(STATUS, 39):
-            expected[k] &= STATUS_BITS
+        expected = cleaned(state)
         expected[15] = (expected[15] + 4) & WORD
         for k, value in changes.items():
             expected[k] = value
