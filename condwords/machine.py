@@ -1,12 +1,16 @@
 """The calls: each takes a state and a memory, and answers what becomes of them."""
 
 from condwords.core import Core, load_byte
+from condwords.interrupts import interrupt
 from condwords.modes import has_mode
 from condwords.steps import step
 
 UNSAID_REFUSAL = -1
 STATE_REFUSAL = -2
 STEPS_REFUSAL = -3
+
+KEPT_OUT = 0
+LET_IN = 1
 
 MOST_STEPS = 1000000
 
@@ -29,6 +33,16 @@ def arm_run(steps, state, pokes, looks):
     if steps > MOST_STEPS:
         return [STEPS_REFUSAL]
     return answer(count_steps(core, steps), core, looks)
+
+
+def arm_interrupt(fast, state, pokes, looks):
+    """Let an interrupt in: 1, the state's 39 numbers and the looks' bytes; kept out 0 alone, or a refusal alone."""
+    core = Core(state, pokes)
+    if is_refused(core):
+        return [STATE_REFUSAL]
+    if not interrupt(core, fast != 0):
+        return [KEPT_OUT]
+    return answer(LET_IN, core, looks)
 
 
 def count_steps(core, most):

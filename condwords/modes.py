@@ -2,11 +2,13 @@
 
 USER = 0x10
 FIQ = 0x11
+IRQ = 0x12
 SVC = 0x13
 UND = 0x1B
 
 MODE_BITS = 0x1F
 INTERRUPTS_OUT = 0x80
+FAST_OUT = 0x40
 
 # Where the pair of a mode begins in the banks: user and system share one, then IRQ, SVC, ABT, UND.
 # FIQ has none here: its R13 and R14 are put away in high, behind its R8 to R12.
@@ -80,9 +82,10 @@ def change_sevens(core):
 
 
 def enter_exception(core, mode, place, back):
-    """Save the status, enter the mode with interrupts kept out, and go on at the place."""
+    """Save the status, enter the mode with interrupts kept out (in FIQ's, fast ones too), and go on at the place."""
     old = core.status
-    take_up(core, (old & ~MODE_BITS) | mode | INTERRUPTS_OUT)
+    kept_out = (INTERRUPTS_OUT | FAST_OUT) if mode == FIQ else INTERRUPTS_OUT
+    take_up(core, (old & ~MODE_BITS) | mode | kept_out)
     set_saved_status(core, old)
     core.regs[14] = back
     core.regs[15] = place

@@ -62,6 +62,21 @@ def cleaned(state):
     return state[:STATUS] + [status & STATUS_BITS for status in state[STATUS:]]
 
 
+def moves(state, old, new):
+    """All that moves when a mode is taken up."""
+    changes = {}
+    if old != FIQ:
+        changes.update({BANK[old]: state[13], BANK[old] + 1: state[14]})
+    if (old == FIQ) != (new == FIQ):
+        for k in range(7):
+            changes[8 + k] = state[HIGH + k]
+            changes[HIGH + k] = state[8 + k]
+    if new != FIQ:
+        changes[13] = changes.get(BANK[new], state[BANK[new]])
+        changes[14] = changes.get(BANK[new] + 1, state[BANK[new] + 1])
+    return changes
+
+
 def sum_by_number(op, s, rn, rd, byte, turn=0, cond=14):
     return cond << 28 | 1 << 25 | op << 21 | s << 20 | rn << 16 | rd << 12 | turn << 8 | byte
 

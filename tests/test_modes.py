@@ -2,27 +2,12 @@
 
 from condwords.machine import arm_step
 from tests.support import (
-    ABT, BANK, C, F, FIQ, HIGH, I, IRQ, MODES, MODES_WITH_SAVED, MOV, N, PC, SAVED, STATUS, SVC, SYSTEM, StepCase, UND,
-    USER, V, WORD, Z, jump, make_state, msr, sum_by_number, sum_of, word_pokes,
+    ABT, C, F, FIQ, I, IRQ, MODES, MODES_WITH_SAVED, MOV, N, PC, SAVED, STATUS, SVC, SYSTEM, StepCase, UND, USER, V, WORD,
+    Z, jump, make_state, moves, msr, sum_by_number, sum_of, word_pokes,
 )
 
 SWI = 0xEF123456
 COPROCESSOR = 0xEE000000
-
-
-def moves(state, old, new):
-    """All that moves when a mode is taken up."""
-    changes = {}
-    if old != FIQ:
-        changes.update({BANK[old]: state[13], BANK[old] + 1: state[14]})
-    if (old == FIQ) != (new == FIQ):
-        for k in range(7):
-            changes[8 + k] = state[HIGH + k]
-            changes[HIGH + k] = state[8 + k]
-    if new != FIQ:
-        changes[13] = changes.get(BANK[new], state[BANK[new]])
-        changes[14] = changes.get(BANK[new] + 1, state[BANK[new] + 1])
-    return changes
 
 
 class TakenUp(StepCase):
